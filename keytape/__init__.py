@@ -1,0 +1,1 @@
+"""Keytape: keys that are taped, and played on other texts."""
