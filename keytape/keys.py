@@ -6,8 +6,11 @@ from keytape.pages import are_signs
 
 NAMES = ("a", "b", "c", "d", "e", "f", "g", "h")
 MOST_KEYS = 30
+MOST_PLAIN_KEYS = 6
 MOST_TIMES = 9
 LONGEST_WORD = 4
+# The keys that a plain tape is made of.
+PLAIN = ("put", "rub", "left", "right", "home", "end")
 
 
 def is_word(word, longest):
@@ -15,10 +18,10 @@ def is_word(word, longest):
     return isinstance(word, str) and 1 <= len(word) <= longest and are_signs(word)
 
 
-def is_times(many):
-    """Whether a tape may be played so many times."""
+def is_number(number, least, most):
+    """Whether this is a number from the least to the most."""
     # For Python, True and False are numbers too.
-    return isinstance(many, int) and not isinstance(many, bool) and 1 <= many <= MOST_TIMES
+    return isinstance(number, int) and not isinstance(number, bool) and least <= number <= most
 
 
 def is_key(key):
@@ -31,13 +34,18 @@ def is_key(key):
         case ("find", word):
             return is_word(word, LONGEST_WORD)
         case ("play", name, many):
-            return name in NAMES and is_times(many)
+            return name in NAMES and is_number(many, 1, MOST_TIMES)
         case ("till", name):
             return name in NAMES
         case (kind,):
             return kind in ACTIONS
         case _:
             return False
+
+
+def is_plain_key(key):
+    """Whether this is a key for a plain tape."""
+    return is_key(key) and key[0] in PLAIN
 
 
 def check_key(key):
@@ -54,6 +62,16 @@ def check_name(name):
 
 def check_keys(keys):
     """Refuse what no tape is made of."""
+    check_each(keys, MOST_KEYS, is_key)
+
+
+def check_plain_keys(keys):
+    """Refuse what no plain tape is made of."""
+    check_each(keys, MOST_PLAIN_KEYS, is_plain_key)
+
+
+def check_each(keys, most, belongs):
+    """Refuse the first of the keys that doesn't belong, or is one more than the most."""
     for at, key in enumerate(keys):
-        if at >= MOST_KEYS or not is_key(key):
+        if at >= most or not belongs(key):
             raise BadKeys(at)

@@ -1,6 +1,9 @@
 """What several tests need."""
 
+import unittest
+
 from keytape.editor import Editor
+from keytape.errors import TapeError
 
 NAMES = "abcdefgh"
 
@@ -51,6 +54,11 @@ def told(editor):
     """All that an editor tells without being changed."""
     return (shown(editor), [editor.tape_of(name) for name in NAMES])
 
+
+EVERY_KEY = (
+    put("a"), put(" "), put("~"), BREAK, RUB, LEFT, RIGHT, UP, DOWN, HOME, END, find("a"), find("a b~"), TAKE, LAY,
+    play("a", 1), play("h", 9), till("a"), till("h"),
+)
 
 # What is no key: tuples of texts and numbers, and (at the end) with True, which is no number.
 NO_KEYS = [
@@ -109,3 +117,14 @@ NO_KEYS = [
 ]
 
 NO_NAMES = ["", "i", "z", "A", "ab", "abcdefgh", " a", "`", "1"]
+
+
+class RefusalCase(unittest.TestCase):
+    def assert_error(self, error, ask, *handed):
+        """Ask, and tell the error with which this is refused; it must be of this very class."""
+        with self.assertRaises(error) as caught:
+            ask(*handed)
+        self.assertIs(type(caught.exception), error)
+        self.assertIsInstance(caught.exception, TapeError)
+        self.assertIsInstance(caught.exception, ValueError)
+        return caught.exception

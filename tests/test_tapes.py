@@ -3,27 +3,19 @@
 import unittest
 
 from keytape.editor import Editor
-from keytape.errors import BadKey, BadKeys, BadName, NotTaping, TapeError, Taping, TooLong
+from keytape.errors import BadKey, BadKeys, BadName, NotTaping, Taping, TooLong
 from support import (
-    BREAK, DOWN, END, HOME, LAY, LEFT, NAMES, NO_KEYS, NO_NAMES, RIGHT, RUB, TAKE, UP, find, play, put, told, till,
-)
-
-EVERY_KEY = (
-    put("a"), put(" "), put("~"), BREAK, RUB, LEFT, RIGHT, UP, DOWN, HOME, END, find("a"), find("a b~"), TAKE, LAY,
-    play("a", 1), play("h", 9), till("a"), till("h"),
+    DOWN, END, EVERY_KEY, HOME, LAY, LEFT, NAMES, NO_KEYS, NO_NAMES, RIGHT, RUB, TAKE, UP, RefusalCase, play, put,
+    told, till,
 )
 
 
-class Case(unittest.TestCase):
+class Case(RefusalCase):
     def assert_refused(self, error, editor, ask, *handed):
         ahead = told(editor)
-        with self.assertRaises(error) as caught:
-            ask(*handed)
-        self.assertIs(type(caught.exception), error)
-        self.assertIsInstance(caught.exception, TapeError)
-        self.assertIsInstance(caught.exception, ValueError)
+        caught = self.assert_error(error, ask, *handed)
         self.assertEqual(told(editor), ahead)
-        return caught.exception
+        return caught
 
 
 class Tape(Case):
